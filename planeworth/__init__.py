@@ -1,0 +1,1 @@
+"""Planeworth reckons with planes that have integer entries."""
