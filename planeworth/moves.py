@@ -36,8 +36,6 @@ def crossing(plane, one, other):
 
 def crossings(planes, one, other):
     """The list of the pairs (t, index) for the planes that part the rows of two points."""
-    check_point(planes.n, one)
-    check_point(planes.n, other)
     rows = planes.planes()
     indexes = parting(planes, row_of(planes, one), row_of(planes, other))
     found = [(crossing(rows[at], one, other), at) for at in indexes]

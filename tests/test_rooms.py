@@ -16,7 +16,7 @@ from tests.helpers import (EXAMPLE, NO_NUMBERS, SMALL_LISTS, Refusals, all_rows,
 
 LISTS = SMALL_LISTS + [random_planes(50 + n, n, 5, 4) for n in (1, 2, 3, 4)]
 TURN = {"+": "-", "-": "+", "0": "0"}
-WRONG_ROWS = ("", "++", "++++", "++x", "+ -")
+WRONG_ROWS = ("", "++", "++++", "++x", "+ -", "0", "+0", "++0-", "0+x")
 
 # More planes: mirrors in three and four letters, and some that are parallel.
 D4 = read_planes("4 " + " ".join(",".join("1" if k == i else s if k == j else "0" for k in range(5))

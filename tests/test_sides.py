@@ -100,7 +100,7 @@ class TestDecideRow(unittest.TestCase, Refusals):
             self.assertEqual(refusing_ties(EXAMPLE, row), [((0, 1, 2), (-1, -1, 1))])
 
     def test_not_row(self):
-        for row in ("", "++", "++++", "++x", "+ -"):
+        for row in ("", "++", "++++", "++x", "+ -", "0", "00", "0000", "00x"):
             for call in (decide_row, is_shown, point_of, refusal, refusing_ties, refused_part):
                 self.told(NotRow, call, EXAMPLE, row)
 

@@ -1,0 +1,63 @@
+"""The names and the arguments of the interface, and where they are defined."""
+
+import importlib
+import inspect
+import unittest
+
+INTERFACE = {
+    "numbers": """is_number(x) check_number(x) number(a,b=1) plus(x,y) minus(x,y) times(x,y) over(x,y) sign(x)
+        is_less(x,y) number_text(x) read_number(text) cleared(row)""",
+    "linear": """check_matrix(width,rows) echelon(width,rows) rank(width,rows) kernel(width,rows)
+        solution(width,rows,wanted) clash(width,rows,wanted) determinant(width,rows) inverse(width,rows)
+        matrix_product(width,rows,other_width,others)""",
+    "planes": """is_plane(n,plane) check_letters(n) check_point(n,point) side(planes,at,point) row_of(planes,point)
+        is_row(planes,row) check_row(planes,row) opposite(planes,row) parting(planes,one,other) meet(planes,indexes)
+        no_meet(planes,indexes)""",
+    "moves": """on_stretch(n,one,other,t) crossings(planes,one,other) joined(one,other) coned(planes)""",
+    "texts": """plane_word(n,plane) text_of_planes(planes) read_plane(n,word) read_planes(text) text_of_point(n,point)
+        read_point(n,text)""",
+    "sides": """shows(planes,row,point) refuses(planes,row,combination) is_shown(planes,row) decide_row(planes,row)
+        point_of(planes,row) refusal(planes,row) ties(planes) refusing_ties(planes,row) refused_part(planes,row)""",
+    "rooms": """rooms(planes) faces(planes) faces_of_dimension(planes,dimension) is_room(planes,row)
+        face_dimension(planes,face) product_of_rows(planes,one,other) distance(planes,one,other) walls(planes,room)
+        neighbours(planes,room) first_way(planes,one,other) count_ways(planes,one,other) belongs(planes,face,room)
+        faces_of(planes,room) rooms_at(planes,face) is_bounded(planes,face) decide_bounded(planes,face)
+        is_hold(planes,face,combination) is_direction(planes,face,point)""",
+    "flats": """meets(planes,indexes) rank_of(planes,indexes) flat_of(planes,indexes) web(planes) is_flat(planes,flat)
+        flat_dimension(planes,flat) span_of(planes,one,other) meet_of(planes,one,other)
+        weight(planes,flat,start=())""",
+}
+CLASSES = {
+    ("planes", "Planes"): """__init__(self,n,rows) planes(self) __len__(self) __eq__(self,other) rank(self)
+        is_central(self) without(self,at) turned(self,at) only(self,indexes)""",
+    ("moves", "Move"): """__init__(self,n,rows,shift) rows(self) shift(self) __eq__(self,other) point(self,point)
+        planes(self,planes) undone(self) behind(self,first)""",
+}
+
+
+def written(function):
+    """The name and the arguments of a function, without spaces."""
+    return (function.__name__ + str(inspect.signature(function))).replace(" ", "")
+
+
+class TestInterface(unittest.TestCase):
+
+    def test_functions(self):
+        for name, lines in INTERFACE.items():
+            module = importlib.import_module(f"planeworth.{name}")
+            for line in lines.split():
+                function = getattr(module, line.split("(")[0])
+                self.assertEqual(written(function), line)
+                self.assertEqual(function.__module__, module.__name__)
+
+    def test_classes(self):
+        for (name, title), lines in CLASSES.items():
+            module = importlib.import_module(f"planeworth.{name}")
+            kind = getattr(module, title)
+            self.assertEqual(kind.__module__, module.__name__)
+            for line in lines.split():
+                self.assertEqual(written(vars(kind)[line.split("(")[0]]), line)
+
+
+if __name__ == "__main__":
+    unittest.main()
