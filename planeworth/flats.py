@@ -134,6 +134,19 @@ def bits_of(flat):
     return sum([1 << at for at in flat])
 
 
+def weights_from(flats_bits, first):
+    """The list of the pairs of the bits of a flat within a first one and its weight from this one.
+
+    The flats are told by their bits, in the order of the web.
+    """
+    weights = []
+    for bits in flats_bits:
+        if bits & first == first:
+            less = sum([much for other, much in weights if other & bits == other])
+            weights.append((bits, 1 if bits == first else -less))
+    return weights
+
+
 def weight(planes, flat, start=()):
     """The weight of a flat from another one."""
     check_flat(planes, flat)
@@ -143,10 +156,4 @@ def weight(planes, flat, start=()):
     # All flats that this flat is within are made of its own planes.
     own = planes.only(flat)
     first = bits_of([flat.index(at) for at in start])
-    between = [bits_of(told) for told in web(own)]
-    weights = []
-    for bits in between:
-        if bits & first == first:
-            less = sum([much for other, much in weights if other & bits == other])
-            weights.append((bits, 1 if bits == first else -less))
-    return weights[-1][1]
+    return weights_from([bits_of(told) for told in web(own)], first)[-1][1]

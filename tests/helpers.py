@@ -1,11 +1,12 @@
 """What several tests need: fractions, an elimination of its own, lists of planes."""
 
 from fractions import Fraction
-from itertools import permutations, product
+from itertools import combinations, permutations, product
 from math import gcd
 from random import Random
 
 from planeworth.planes import Planes
+from planeworth.products import Sum
 from planeworth.texts import read_planes
 
 # Pairs that are not in lowest terms, or whose second integer is 0 or below.
@@ -121,6 +122,62 @@ def random_planes(seed, n, many, most):
         if any(plane[:n]) and gcd(*plane) == 1 and plane not in rows and other not in rows:
             rows.append(plane)
     return Planes(n, rows)
+
+
+def all_indexes(planes):
+    """All ascending tuples of indexes, shorter ones first."""
+    return [part for size in range(len(planes) + 1) for part in combinations(range(len(planes)), size)]
+
+
+class Told:
+    """The ranks, meets and flats of a list, by an elimination of the tests' own."""
+
+    def __init__(self, planes):
+        self.planes = planes
+        self.rows = planes.planes()
+        self.known = {}
+        self.all_flats = None
+
+    def ranks(self, indexes):
+        """The ranks of the rows without and with the last entry."""
+        key = frozenset(indexes)
+        if key not in self.known:
+            rows = [self.rows[k] for k in key]
+            self.known[key] = len(reduced([row[:-1] for row in rows])), len(reduced(rows))
+        return self.known[key]
+
+    def rank(self, indexes):
+        return self.ranks(indexes)[0]
+
+    def meets(self, indexes):
+        return self.ranks(indexes)[0] == self.ranks(indexes)[1]
+
+    def flat(self, indexes):
+        """All planes that change neither the rank nor that the planes meet."""
+        return tuple(k for k in range(len(self.rows)) if self.ranks((*indexes, k))[1] == self.rank(indexes))
+
+    def weights(self):
+        """The weights of all flats, in the order of the web, added up by [84]."""
+        weights = {}
+        for flat in self.web():
+            less = sum(much for other, much in weights.items() if set(other) < set(flat))
+            weights[flat] = -less if flat else 1
+        return weights
+
+    def web(self):
+        if self.all_flats is None:
+            flats = {self.flat(part) for part in all_indexes(self.planes) if self.meets(part)}
+            self.all_flats = sorted(flats, key=lambda flat: (self.rank(flat), flat))
+        return list(self.all_flats)
+
+
+def random_sum(seed, planes, size, many=8, most=9):
+    """A sum with random products, some of them twice."""
+    draw = Random(seed)
+    every = list(combinations(range(len(planes)), size))
+    terms = [(draw.choice(every), pair(Fraction(draw.randint(-most, most), draw.randint(1, most))))
+             for _ in range(many if every else 0)]
+    return Sum(planes, size, terms)
 
 
 # Lists with ties of all kinds: parallel planes, letters in no plane, all planes through one point.

@@ -1,7 +1,6 @@
 """[80] to [84] and what [93] says of the web and its weights."""
 
 import unittest
-from itertools import combinations
 from math import gcd
 from random import Random
 
@@ -10,38 +9,11 @@ from planeworth.flats import (flat_dimension, flat_of, is_flat, meet_of, meets, 
 from planeworth.planes import Planes
 from planeworth.rooms import rooms
 from planeworth.texts import read_planes
-from tests.helpers import BIG, EXAMPLE, SMALL_LISTS, Refusals, random_planes, reduced
+from tests.helpers import BIG, EXAMPLE, SMALL_LISTS, Refusals, Told, all_indexes, random_planes
 
 LISTS = SMALL_LISTS + [random_planes(80 + n, n, 6, 3) for n in (1, 2, 3, 4)] + [
     read_planes("3 1,0,0,0 0,1,0,0 0,0,1,0 1,-1,0,0 1,1,0,0 1,0,-1,0"),
     read_planes("2 1,0,0 1,0,1 0,1,0 0,1,1 1,1,1 1,-1,0 1,1,5")]
-
-
-def all_indexes(planes):
-    return [part for size in range(len(planes) + 1) for part in combinations(range(len(planes)), size)]
-
-
-class Told:
-    """The ranks, meets and flats of a list, by an elimination of the tests' own."""
-
-    def __init__(self, planes):
-        self.planes = planes
-        self.rows = planes.planes()
-
-    def rank(self, indexes):
-        return len(reduced([self.rows[k][:-1] for k in indexes]))
-
-    def meets(self, indexes):
-        return self.rank(indexes) == len(reduced([self.rows[k] for k in indexes]))
-
-    def flat(self, indexes):
-        """All planes that change neither the rank nor that the planes meet."""
-        return tuple(k for k in range(len(self.rows))
-                     if len(reduced([self.rows[j] for j in (*indexes, k)])) == self.rank(indexes))
-
-    def web(self):
-        flats = {self.flat(part) for part in all_indexes(self.planes) if self.meets(part)}
-        return sorted(flats, key=lambda flat: (self.rank(flat), flat))
 
 
 TOLD = [Told(planes) for planes in LISTS]

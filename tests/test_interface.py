@@ -26,12 +26,26 @@ INTERFACE = {
     "flats": """meets(planes,indexes) rank_of(planes,indexes) flat_of(planes,indexes) web(planes) is_flat(planes,flat)
         flat_dimension(planes,flat) span_of(planes,one,other) meet_of(planes,one,other)
         weight(planes,flat,start=())""",
+    "counting": """polynomial(planes) value_at(poly,t) rooms_number(planes) bounded_number(planes) faces_numbers(planes)
+        shrunk(planes,index) shrunk_from(planes,index) section(planes,index) is_good(planes,q)
+        points_over(planes,q)""",
+    "circuits": """is_empty(planes,product) is_tied(planes,product) is_allowed(planes,product) circuits(planes)
+        broken(planes) allowed(planes,size)""",
+    "products": """read_sum(planes,text) zero_sum(planes,size) relation_sum(planes,relation)""",
+    "alike": """plain(one) are_alike(one,other) flags(planes,size) flag_value(one,flag) paper_sum(planes,size,paper)
+        decide(one,other) is_answer(one,other,answer) lowered(one) form_at(one,point)""",
+    "polys": """is_poly(n,one) check_poly(n,one) poly_sum(n,one,two) poly_product(n,one,two) poly_times(n,one,factor)
+        slope(n,one,index) poly_value(n,one,point) plane_form(n,plane) quotient(n,one,plane)
+        poly_determinant(n,rows)""",
 }
 CLASSES = {
     ("planes", "Planes"): """__init__(self,n,rows) planes(self) __len__(self) __eq__(self,other) rank(self)
         is_central(self) without(self,at) turned(self,at) only(self,indexes)""",
     ("moves", "Move"): """__init__(self,n,rows,shift) rows(self) shift(self) __eq__(self,other) point(self,point)
         planes(self,planes) undone(self) behind(self,first)""",
+    ("products", "Sum"): """__init__(self,planes,size,terms) terms(self) at(self,product) __len__(self)
+        __add__(self,other) __sub__(self,other) __mul__(self,other) scaled(self,x) __eq__(self,other)
+        text(self)""",
 }
 
 
