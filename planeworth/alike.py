@@ -1,11 +1,9 @@
 """Sums that are alike: plain sums, flags and their values, papers, lowered sums, forms."""
 
-from itertools import combinations
-
 from planeworth.circuits import breaking, check_size
 from planeworth.errors import BadNumber, NoAnswer, NotFlat, TooLarge
 from planeworth.flats import check_flat, flat_of, meeting, next_flats, rank_of
-from planeworth.linear import whole_determinant
+from planeworth.linear import index_choices, whole_determinant
 from planeworth.moves import excess
 from planeworth.numbers import ONE, ZERO, check_number, minus, over, plus, times
 from planeworth.planes import check_point
@@ -171,11 +169,6 @@ def lowered(one):
     return Sum(one.base, one.size - 1, terms)
 
 
-def letter_choices(n, size):
-    """The list of all ascending choices of so many letters."""
-    return list(combinations(range(n), size))
-
-
 def form_at(one, point):
     """The form of a sum at a point."""
     n = one.base.n
@@ -186,7 +179,7 @@ def form_at(one, point):
     values = [excess(plane, point) for plane in rows]
     if ZERO in values:
         raise NoAnswer("the point lies on a plane")
-    choices = letter_choices(n, one.size)
+    choices = index_choices(n, one.size)
     form = [ZERO] * len(choices)
     for product, x in one.terms():
         below = ONE

@@ -1,5 +1,6 @@
 """Matrices of numbers: echelon form, kernel, solution, clash, determinant, inverse."""
 
+from itertools import combinations
 from math import gcd
 
 from planeworth.errors import BadNumber, NoAnswer, NotMatrix
@@ -101,6 +102,11 @@ def solution_or_none(width, rows, wanted):
     """The solution for rows of numbers, or None."""
     longer = [cleared(row + (x,)) for row, x in zip(rows, wanted)]
     return solution_from(width, whole_echelon(width + 1, longer))
+
+
+def index_choices(many, size):
+    """The list of all ascending choices of so many of the first integers from 0 on, ascending."""
+    return list(combinations(range(many), size))
 
 
 def columns_of(width, rows):

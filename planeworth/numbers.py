@@ -134,6 +134,8 @@ def content(integers):
     shared = 0
     for a in integers:
         shared = gcd(shared, a)
+        if shared == 1:
+            return 1
     return shared
 
 

@@ -137,10 +137,8 @@ def plane_form(n, plane):
     return poly_of({letter_power(n, k): plane[k] for k in range(n)})
 
 
-def quotient(n, one, plane):
-    """The polynomial that makes another one, multiplied by the form of a plane."""
-    check_poly(n, one)
-    form = plane_form(n, plane)
+def divided(one, form):
+    """The polynomial that makes another one, multiplied by a form; None if there is none with integers."""
     # The greatest term of a product is the product of the greatest terms.
     first, by = form[-1]
     left = one
@@ -149,10 +147,19 @@ def quotient(n, one, plane):
         powers, a = left[-1]
         less = tuple([k - j for k, j in zip(powers, first)])
         if min(less) < 0 or a % by != 0:
-            raise NoAnswer("the form does not divide the polynomial")
+            return None
         found.append((less, a // by))
         left = added(left, product_of(found[-1:], form), -1)
     return tuple(reversed(found))
+
+
+def quotient(n, one, plane):
+    """The polynomial that makes another one, multiplied by the form of a plane."""
+    check_poly(n, one)
+    found = divided(one, plane_form(n, plane))
+    if found is None:
+        raise NoAnswer("the form does not divide the polynomial")
+    return found
 
 
 def check_poly_rows(n, rows):

@@ -171,6 +171,17 @@ class Told:
         return list(self.all_flats)
 
 
+def origin_planes(seed, n, many, most):
+    """A list of planes at the origin with random entries."""
+    draw = Random(seed)
+    rows = []
+    while len(rows) < many:
+        plane = tuple(draw.randint(-most, most) for _ in range(n)) + (0,)
+        if any(plane) and gcd(*plane) == 1 and plane not in rows and tuple(-a for a in plane) not in rows:
+            rows.append(plane)
+    return Planes(n, rows)
+
+
 def random_sum(seed, planes, size, many=8, most=9):
     """A sum with random products, some of them twice."""
     draw = Random(seed)
@@ -195,6 +206,16 @@ SMALL_LISTS = [read_planes(text) for text in (
 )]
 
 EXAMPLE = read_planes("2 1,0,0 0,1,0 1,1,1")
+
+
+# Planes at the origin: free ones and others, for 1 to 4 letters, with letters in no plane.
+ORIGIN_LISTS = [read_planes(text) for text in (
+    "1", "2", "4", "1 1,0", "1 -1,0", "2 1,-2,0", "2 1,0,0 0,1,0", "2 1,0,0 0,1,0 1,-1,0", "2 1,2,0 3,-1,0 5,2,0 0,1,0",
+    "3 1,0,0,0", "3 1,0,0,0 0,1,0,0 0,0,1,0 1,1,1,0", "3 1,1,0,0 1,-1,0,0", "3 1,0,0,0 0,1,0,0 1,-1,0,0 2,1,0,0",
+    "3 1,0,0,0 0,1,0,0 0,0,1,0 1,-1,0,0 1,0,-1,0 0,1,-1,0", "3 1,0,0,0 0,1,0,0 0,0,1,0 1,-1,0,0 1,0,-1,0",
+    "3 1,0,0,0 0,1,0,0 1,1,0,0 0,0,1,0 1,1,1,0", "3 1,2,3,0 2,-1,1,0 1,1,-1,0 3,0,1,0 1,5,2,0",
+    "4 1,0,0,0,0 0,1,0,0,0 0,0,1,0,0 0,0,0,1,0", "4 1,0,0,0,0 0,1,0,0,0 0,0,1,0,0 0,0,0,1,0 1,1,1,1,0",
+    "4 0,1,0,0,0 0,1,1,0,0 0,0,1,0,0", "4 1,-1,0,0,0 0,1,-1,0,0 1,0,-1,0,0 0,0,1,-1,0 0,1,0,-1,0")]
 
 
 class Refusals:

@@ -37,6 +37,20 @@ INTERFACE = {
     "polys": """is_poly(n,one) check_poly(n,one) poly_sum(n,one,two) poly_product(n,one,two) poly_times(n,one,factor)
         slope(n,one,index) poly_value(n,one,point) plane_form(n,plane) quotient(n,one,plane)
         poly_determinant(n,rows)""",
+    "derivations": """is_derivation(n,one) check_derivation(n,one) applied(n,one,poly) bracket(n,one,two)
+        lawful(planes,one) lawful_basis(planes,degree) degree_table(planes) degrees(planes) freedom(planes)
+        is_modular(planes,flat) split_chain(planes)""",
+    "bodies": """is_strokes(n,strokes) check_strokes(n,strokes) planes_of(n,strokes) corners(n,strokes)
+        corner(n,strokes,direction) greatest(n,strokes,direction) placed(n,strokes,point) stroke_count(n,strokes)
+        volume(n,strokes) whole_number(n,strokes,t) whole_inner_number(n,strokes,t) whole_points(n,strokes)
+        pieces(n,strokes) graph_strokes(n,edges)""",
+    "signrows": """is_sign_list(rows) check_sign_list(rows) put_behind(one,two) opposites(one,two) stand_apart(one,two)
+        row_fault(rows) least_rows(rows) row_closure(k,rows) apart_from(k,rows) rows_of_rooms(k,rooms)
+        sign_circuits(planes)""",
+    "determinants": """sign_of(k,r,signs,indexes) exchange_fault(k,r,signs) least_of(k,r,signs) signs_of(planes)""",
+    "distances": """toll_table(planes,tolls) toll_determinant(planes,tolls) toll_rank(planes,tolls)
+        flat_inner(planes,flat) flat_exponent(planes,flat) comes_apart(planes,flat) flat_exponents(planes)
+        lost_numbers(planes,tolls) is_lost_numbers(planes,tolls,numbers)""",
 }
 CLASSES = {
     ("planes", "Planes"): """__init__(self,n,rows) planes(self) __len__(self) __eq__(self,other) rank(self)

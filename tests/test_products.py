@@ -117,6 +117,7 @@ class TestSum(unittest.TestCase, Refusals):
             for x in NO_NUMBERS:
                 self.told(NotNumber, one.scaled, x)
         self.assertEqual(zero_sum(MIXED, 3).scaled((5, 1)), zero_sum(MIXED, 3))
+        self.told(NotNumber, zero_sum(MIXED, 3).scaled, (2, 4))
 
     def test_lists_and_sizes_that_differ(self):
         one = Sum(THROUGH, 1, [((0,), (1, 1))])
