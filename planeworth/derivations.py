@@ -167,14 +167,11 @@ def by_letters(n, degree, rows):
 def chosen_rows(n, degree, rows, before):
     """The rows of a told basis that are chosen; `before` is that of the degree less by 1."""
     places = places_of(n, degree)
-    # A lawful derivation is told by its integers at the first places of the told basis.
-    firsts = [(places[first_place(row)], row[first_place(row)]) for row in rows]
-    common = 1
-    for _, a in firsts:
-        common = common * a
-    # From the last one on: the last derivation in some combination is made by those before it.
-    told = [[made.get(place, 0) * (common // a) for place, a in reversed(firsts)]
-            for made in by_letters(n, degree - 1, before)]
+    # A lawful derivation is told by its integers at the first places of the told basis: but for
+    # a factor each, these are the numbers of the combination. They stand from the last one on,
+    # as a derivation is made by those before it if it is the last one in some combination.
+    firsts = [places[first_place(row)] for row in rows]
+    told = [[made.get(place, 0) for place in reversed(firsts)] for made in by_letters(n, degree - 1, before)]
     made_places = [len(rows) - 1 - pivot for pivot, _ in whole_echelon(len(rows), told)]
     return [row for k, row in enumerate(rows) if k not in made_places]
 

@@ -81,10 +81,7 @@ def exchange_fault(k, r, signs):
     table = table_of(k, r, signs)
     if all([letter == "0" for letter in signs]):
         return ("zero",)
-    fault = base_fault(table)
-    if fault is not None:
-        return fault
-    return swap_fault(k, r, table)
+    return base_fault(table) or swap_fault(k, r, table)
 
 
 def least_of(k, r, signs):

@@ -1,9 +1,9 @@
 """The table of distances by tolls: its determinant, told by flats, its rank, numbers that it loses."""
 
 from planeworth.counting import rooms_number
-from planeworth.errors import BadNumber, NoAnswer, NotNumber, TooLarge
+from planeworth.errors import BadNumber, NoAnswer, TooLarge
 from planeworth.flats import bits_of, check_flat, web_by_rank, weights_from
-from planeworth.linear import is_number_row, kernel_from, whole_echelon, whole_product
+from planeworth.linear import kernel_from, whole_echelon, whole_product
 from planeworth.numbers import ONE, ZERO, check_number, cleared, minus, over_one_divisor, times
 from planeworth.planes import parting
 from planeworth.rooms import rooms
@@ -128,7 +128,5 @@ def is_lost_numbers(planes, tolls, numbers):
     table = toll_table(planes, tolls)
     if len(numbers) != len(table):
         raise BadNumber("there is a number for each room")
-    if not is_number_row(len(table), numbers):
-        raise NotNumber("a pair is no number")
     integers, _ = over_one_divisor(numbers)
     return any(integers) and all([whole_product(cleared(row), integers) == 0 for row in table])

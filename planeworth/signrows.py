@@ -137,11 +137,7 @@ def row_fault(rows):
     check_sign_list(rows)
     if len(rows) > MOST_FAULT_ROWS:
         raise TooLarge("there are more than 80 rows")
-    for look in (zero_fault, turn_fault, behind_fault, between_fault):
-        fault = look(rows)
-        if fault is not None:
-            return fault
-    return None
+    return zero_fault(rows) or turn_fault(rows) or behind_fault(rows) or between_fault(rows)
 
 
 def signed_places(row):
@@ -164,8 +160,7 @@ def row_closure(k, rows):
     check_list_of(k, rows)
     found = {"0" * k: True}
     makers = []
-    # A row with few signs cannot be made of rows with more: so each row is made by rows
-    # behind it in this order, or it makes new ones itself.
+    # Rows with few signs go first, as they make most of the others: few makers are left.
     for _, row in sorted([(-row.count("0"), row) for row in rows]):
         if row not in found:
             makers.append(row)

@@ -85,6 +85,13 @@ class TestFlags(unittest.TestCase, Refusals):
         self.assertEqual(len(flags(TWELVE.only(tuple(range(8))), 4)), 1680)
         self.told(TooLarge, flags, TWELVE.only(tuple(range(9))), 4)
 
+    def test_just_3000(self):
+        # Each four of the nine planes meet in a point of their own, but for the first four: 125 times 24 flags.
+        rows = random_planes(61, 4, 9, 30).planes()
+        rows[3] = tuple(a + b + c for a, b, c in zip(*[row[:4] for row in rows[:3]])) + (997,)
+        planes = Planes(4, rows)
+        self.assertEqual(len(flags(planes, 4)), 3000)
+
     def test_values_of_products(self):
         for told, size, values in VALUES:
             for product in list(values.table)[:12]:
@@ -150,6 +157,13 @@ class TestPlain(unittest.TestCase, Refusals):
                     told_sum = relation_sum(planes, ("tied", circuit, rest))
                     self.assertFalse(any(values.of(told_sum)))
                     self.assertEqual(plain(one + told_sum.scaled((3, 2))), plain(one))
+            empty = [part for part in combinations(range(len(planes)), size) if not told.meets(part)]
+            for part in empty[:3]:
+                told_sum = relation_sum(planes, ("empty", part[:1] + part[2:], part[1:2])) if (
+                    not told.meets(part[:1] + part[2:])) else relation_sum(planes, ("empty", part, ()))
+                self.assertTrue(told_sum)
+                self.assertFalse(any(values.of(told_sum)))
+                self.assertEqual(plain(one + told_sum.scaled((3, 2))), plain(one))
 
     def test_differing(self):
         for call in (are_alike, decide):

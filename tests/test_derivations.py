@@ -88,6 +88,7 @@ class TestDerivations(unittest.TestCase, Refusals):
             self.assertIs(is_derivation(2, one), False)
             self.told(NotPoly, check_derivation, 2, one)
             self.told(NotPoly, applied, 2, one, (((1, 1), 0),))
+            self.told(NotPoly, applied, 2, one, XX)
             self.told(NotPoly, bracket, 2, one, (X, Y))
             self.told(NotPoly, bracket, 2, (X, Y), one)
             self.told(NotPoly, lawful, read_planes("2"), one)
@@ -404,6 +405,10 @@ class TestChains(unittest.TestCase, Refusals):
         # The flat (0,) is modular, but none of a greater rank within it is.
         self.assertEqual(split_chain(LATER), [(), (1,), (1, 3, 4, 5), (0, 1, 2, 3, 4, 5, 6)])
         self.assertIs(is_modular(LATER, (0,)), True)
+        # The first modular flat of the rank 3 is not within (0, 3).
+        planes = read_planes("4 0,0,1,0,0 1,0,0,1,0 0,0,1,1,0 0,1,0,0,0 1,0,0,0,0 1,0,-1,0,0")
+        self.assertIs(is_modular(planes, (0, 1, 2, 4, 5)), True)
+        self.assertEqual(split_chain(planes), [(), (0,), (0, 3), (0, 3, 4, 5), (0, 1, 2, 3, 4, 5)])
 
     def test_not_flat(self):
         for flat in ((0, 1), (6,), (-1,), (1, 0), (0, 0), (0, BIG)):

@@ -107,6 +107,14 @@ class TestTables(unittest.TestCase, Refusals):
                 self.told(BadNumber, call, EXAMPLE, ((1, 1), x, (1, 2)), *rest)
                 self.told(BadNumber, call, more, ((1, 1),) * 10 + (x,), *rest)
             self.told(TooLarge, call, more, ((1, 1),) * 11, *rest)
+        # Four lines and two lines side by side leave 60 rooms of eleven lines; a room more is too many.
+        steep = [(1, -k, k * k * k) for k in range(2, 7)]
+        fits = read_planes("2 1,0,0 1,0,1 1,0,2 1,0,3 0,1,100 0,1,101")
+        fits = type(fits)(2, fits.planes() + steep)
+        more = type(fits)(2, fits.planes()[:5] + [(1, 1, 1)] + steep)
+        self.assertEqual((len(rooms(fits)), len(rooms(more))), (60, 61))
+        self.assertEqual(len(toll_table(fits, ((1, 2),) * 11)), 60)
+        self.told(TooLarge, toll_table, more, ((1, 2),) * 11)
         self.assertEqual(toll_table(read_planes("1 1,0"), ((-100, 1),)), [((1, 1), (-100, 1)), ((-100, 1), (1, 1))])
         self.assertEqual(toll_table(read_planes("1 1,0"), ((1, 100),)), [((1, 1), (1, 100)), ((1, 100), (1, 1))])
 
