@@ -1,7 +1,7 @@
 """Derivations that are lawful for planes at the origin; planes that are free; modular flats."""
 
 from planeworth.errors import BadNumber, NoAnswer, NotPlanes, NotPoly, TooLarge
-from planeworth.flats import bits_of, check_flat, rank_of, web_by_rank
+from planeworth.flats import bits_of, check_flat, rank_of, web, web_by_rank
 from planeworth.linear import kernel_from, whole_echelon
 from planeworth.numbers import cleared
 from planeworth.planes import check_letters, letter_rows
@@ -222,25 +222,33 @@ def freedom(planes):
     return ("bound", tuple(table))
 
 
-def is_modular_in(planes, flat, rank, levels, known):
-    """Whether a flat of a rank is modular; `known` keeps the ranks of planes told by bits."""
+class Ranks:
+    """The ranks of planes that are told by the bits of their indexes; each one is worked out once."""
+
+    def __init__(self, planes):
+        self._planes = planes
+        self._known = {}
+
+    def of(self, bits):
+        """The rank of some planes."""
+        if bits not in self._known:
+            indexes = [at for at in range(len(self._planes)) if bits >> at & 1 == 1]
+            self._known[bits] = rank_of(self._planes, indexes)
+        return self._known[bits]
+
+
+def is_modular_among(ranks, flat, flats):
+    """Whether a flat is modular among all flats."""
     own = bits_of(flat)
-    for size, level in enumerate(levels):
-        for other in level:
-            bits = bits_of(other)
-            for part in (own | bits, own & bits):
-                if part not in known:
-                    known[part] = rank_of(planes, [at for at in range(len(planes)) if part >> at & 1 == 1])
-            if rank + size != known[own | bits] + known[own & bits]:
-                return False
-    return True
+    others = [bits_of(other) for other in flats]
+    return all([ranks.of(own) + ranks.of(bits) == ranks.of(own | bits) + ranks.of(own & bits) for bits in others])
 
 
 def is_modular(planes, flat):
     """Whether a flat is modular."""
     check_origin(planes)
     check_flat(planes, flat)
-    return is_modular_in(planes, flat, rank_of(planes, flat), web_by_rank(planes), {})
+    return is_modular_among(Ranks(planes), flat, web(planes))
 
 
 def is_part(one, other):
@@ -252,13 +260,14 @@ def split_chain(planes):
     """The first split chain."""
     check_origin(planes)
     levels = web_by_rank(planes)
-    known = {}
+    flats = [flat for level in levels for flat in level]
+    ranks = Ranks(planes)
     # From the last rank to the first: the modular flats from which a chain goes on to the end.
     good = [levels[-1]]
     for rank in reversed(range(len(levels) - 1)):
         good.append([flat for flat in levels[rank]
                      if any([is_part(flat, other) for other in good[-1]])
-                     and is_modular_in(planes, flat, rank, levels, known)])
+                     and is_modular_among(ranks, flat, flats)])
     chain = []
     for level in reversed(good):
         further = [flat for flat in level if len(chain) == 0 or is_part(chain[-1], flat)]

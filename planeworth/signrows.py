@@ -164,19 +164,13 @@ def row_closure(k, rows):
     for _, row in sorted([(-row.count("0"), row) for row in rows]):
         if row not in found:
             makers.append(row)
-            fresh = [put_before(one, row) for one in found]
-            close_over(found, makers, fresh)
+            left = [put_before(one, row) for one in found]
+            while len(left) > 0:
+                one = left.pop()
+                if one not in found:
+                    found[one] = True
+                    left.extend([put_before(one, maker) for maker in makers])
     return sorted(found)
-
-
-def close_over(found, makers, fresh):
-    """Put rows, and all that come by putting the makers behind them, among those that are found."""
-    left = [row for row in fresh if row not in found]
-    while len(left) > 0:
-        one = left.pop()
-        if one not in found:
-            found[one] = True
-            left.extend([put_before(one, row) for row in makers])
 
 
 def all_sign_rows(k):
