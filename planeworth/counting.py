@@ -149,22 +149,32 @@ def is_good(planes, q):
     return True
 
 
-def field_points(n, q):
-    """The list of all points over the field with q elements, with -1 behind each."""
+def check_rests(n, q):
+    """Raise TooLarge if there are more than 3000 points of n rests by q."""
+    many = 1
+    for _ in range(n):
+        many = many * q
+    if many > MOST_POINTS:
+        raise TooLarge("there are more than 3000 points")
+
+
+def rest_rows(n, q):
+    """The list of all points of n rests by q, with -1 behind each."""
     points = [()]
     for _ in range(n):
         points = [point + (x,) for point in points for x in range(q)]
     return [point + (-1,) for point in points]
 
 
+def points_off(planes, q):
+    """The number of the points of rests by q that lie on no plane, read by their rests."""
+    rows = planes.planes()
+    return len([point for point in rest_rows(planes.n, q)
+                if all([whole_product(row, point) % q != 0 for row in rows])])
+
+
 def points_over(planes, q):
     """The number of the points over the field with q elements that lie on no plane."""
     check_prime(q)
-    many = 1
-    for _ in range(planes.n):
-        many = many * q
-    if many > MOST_POINTS:
-        raise TooLarge("there are more than 3000 points")
-    rows = planes.planes()
-    return len([point for point in field_points(planes.n, q)
-                if all([whole_product(row, point) % q != 0 for row in rows])])
+    check_rests(planes.n, q)
+    return points_off(planes, q)
