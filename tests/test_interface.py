@@ -51,6 +51,17 @@ INTERFACE = {
     "distances": """toll_table(planes,tolls) toll_determinant(planes,tolls) toll_rank(planes,tolls)
         flat_inner(planes,flat) flat_exponent(planes,flat) comes_apart(planes,flat) flat_exponents(planes)
         lost_numbers(planes,tolls) is_lost_numbers(planes,tolls,numbers)""",
+    "walks": """check_chances(planes,chances) step_table(planes,chances) steps_table(planes,chances,k)
+        share(planes,chances,flat) shares(planes,chances) diagonal_sum(planes,chances,k) after(planes,chances,room,k)
+        reaches(planes,chances) rest(planes,chances) is_rest(planes,chances,numbers) drawn(planes,chances)
+        away(planes,chances,room,k) away_bound(planes,chances,k)""",
+    "graphs": """rest_points(graph,q) colour_row(graph) colourings(graph,q) agreeing(graph,q) orientations(graph)
+        heights(graph,row) round_in(graph,row) sources(graph,row) trees_number(graph) forests_number(graph)""",
+    "mirrors": """mirror(planes,at) is_closed(planes) group(planes) exponents(planes) rooms_by_distance(planes,row)""",
+    "families": """family(word,m) label(m,row) room_with(m,labels)""",
+    "certificates": """shows_row(n,rows,row,point) refuses_row(n,rows,row,combination) tells_all(n,rows,papers)
+        faces_told(n,rows,papers) shows_in(n,strokes,point,shares) shows_out(n,strokes,point,direction)
+        comparisons_cancel(k,r,signs,comparisons)""",
 }
 CLASSES = {
     ("planes", "Planes"): """__init__(self,n,rows) planes(self) __len__(self) __eq__(self,other) rank(self)
@@ -60,6 +71,8 @@ CLASSES = {
     ("products", "Sum"): """__init__(self,planes,size,terms) terms(self) at(self,product) __len__(self)
         __add__(self,other) __sub__(self,other) __mul__(self,other) scaled(self,x) __eq__(self,other)
         text(self)""",
+    ("graphs", "Graph"): """__init__(self,m,steps) steps(self) __len__(self) __eq__(self,other) is_plain(self)
+        planes(self)""",
 }
 
 
