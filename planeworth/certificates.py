@@ -118,7 +118,7 @@ def is_right(n, rows, paper):
     head, (word, told) = paper
     if word == "shown":
         return has_row(n, rows, head, told)
-    return len(head) <= len(rows) and is_against(n, rows[:len(head)], head, told)
+    return is_against(n, rows[:len(head)], head, told)
 
 
 def heads_with(papers, word):
@@ -191,14 +191,19 @@ def shows_out(n, strokes, point, direction):
     return added_up(direction, place) > most * place[-1]
 
 
-def worth_of(table, indexes):
-    """1, -1 or 0 for the sign of different indexes in this order."""
-    worth = table[tuple(sorted(indexes))]
+def order_worth(indexes):
+    """1 or -1 for an even or odd number of pairs of different indexes that stand the wrong way round."""
+    worth = 1
     for k, at in enumerate(indexes):
         for other in indexes[k + 1:]:
             if at > other:
                 worth = -worth
     return worth
+
+
+def worth_of(table, indexes):
+    """1, -1 or 0 for the sign of different indexes in this order."""
+    return table[tuple(sorted(indexes))] * order_worth(indexes)
 
 
 def is_comparison(k, r, told):

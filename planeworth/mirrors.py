@@ -5,7 +5,7 @@ from planeworth.errors import NoAnswer
 from planeworth.linear import row_sum, unit_row, whole_product
 from planeworth.moves import Move, moved_plane
 from planeworth.numbers import ZERO, negated, number
-from planeworth.planes import check_index, check_row, parting
+from planeworth.planes import check_index, parting
 from planeworth.rooms import check_room, rooms
 
 
@@ -77,7 +77,7 @@ def exponents(planes):
     found = []
     # The roots add up to the number of the planes, so none that is told is greater.
     for root in range(len(planes) + 1):
-        while len(poly) > 1 and value_at(poly, root) == 0:
+        while value_at(poly, root) == 0:
             poly = less_root(poly, root)
             found.append(root)
     if len(found) < planes.n:
@@ -87,7 +87,6 @@ def exponents(planes):
 
 def rooms_by_distance(planes, row):
     """The list of the numbers of rooms at the distances 0, 1, .. from a room."""
-    check_row(planes, row)
     check_room(planes, row)
     distances = [len(parting(planes, row, room)) for room in rooms(planes)]
     return [distances.count(k) for k in range(max(distances) + 1)]

@@ -131,7 +131,6 @@ def diagonal_sum(planes, chances, k):
 def check_walk(planes, chances, room, k):
     """Raise the errors of the chances, then those of the room, then BadNumber for k."""
     check_chances(planes, chances)
-    check_row(planes, room)
     check_room(planes, room)
     check_steps(k)
 

@@ -119,9 +119,13 @@ class TestRows(unittest.TestCase, Refusals):
             self.assertIs(refuses_row(n, rows, "--+", bad), False)
         self.assertIs(shows_row(n, rows, "++-", ((2, 4), (2, 6))), False)
         self.assertIs(refuses_row(n, rows, "--+", ((-2, 2), (-2, 2), (2, 2))), False)
-        for other in ((1, 2), ("1", "2"), (None, None), "ab"):
+        for other in ((1, 2), ("1", "2"), (None, None), "ab", [(1, 2), (1, 3)], ((1, 2), [1, 3]), ((1, 2), (1,)),
+                      ((1, 2), (1, 3, 1)), ((1, 2), ("1", 3)), ((1, 2), (1, "3")), ((1, 2), ((1, 1), 3))):
             self.assertIs(shows_row(n, rows, "++-", other), False)
-            self.assertIs(refuses_row(n, rows, "--+", other), False)
+            self.assertIs(refuses_row(n, rows, "--+", (other[0], *other) if len(other) < 3 else other), False)
+        self.assertIs(refuses_row(n, rows, "--+", list(combination)), False)
+        self.assertIs(refuses_row(n, rows, ("-", "-", "+"), combination), False)
+        self.assertIs(shows_row(n, rows, ("+", "+", "-"), point), False)
 
     def test_large_integers(self):
         x = 10 ** 500
@@ -235,7 +239,8 @@ class TestPapers(unittest.TestCase, Refusals):
 
     def test_other_kinds_of_papers(self):
         papers = papers_of(TWO)
-        for paper in ((), ("++",), ("++", "shown"), ("++", ("shown",)), ("++", ()), (1, ("shown", pairs(2))), ("++", 3)):
+        for paper in ((), ("++",), ("++", "shown"), ("++", ("shown",)), ("++", ()), (1, ("shown", pairs(2))), ("++", 3),
+                      ["++", ("shown", pairs(2))], ("++", ["shown", pairs(2)]), (("+", "+"), ("shown", pairs(2)))):
             self.assertIs(tells_all(1, TWO.planes(), papers + [paper]), False)
 
     def test_a_shown_head_must_be_whole(self):
@@ -432,7 +437,8 @@ class TestComparisons(unittest.TestCase, Refusals):
         good = [((), 0, 1, 2, 3), ((), 0, 2, 1, 3)]
         self.assertIs(comparisons_cancel(4, 2, signs, good), True)
         for bad in (((0,), 0, 1, 2, 3), ((4,), 0, 1, 2, 3), ((), 0, 1, 2, 4), ((), -1, 1, 2, 3), ((), 0, 1, 2, 2),
-                    ((), 0, 0, 2, 3), ((), 0, 1, 2, 0), ((), 0, 1, 2, BIG), ((), 0, 1, 2), ((), 0, 1, 2, 3, 3), ()):
+                    ((), 0, 0, 2, 3), ((), 0, 1, 2, 0), ((), 0, 1, 2, BIG), ((), 0, 1, 2), ((), 0, 1, 2, 3, 3), (),
+                    [(), 0, 1, 2, 3], ([], 0, 1, 2, 3), (0, 0, 1, 2, 3)):
             self.assertIs(comparisons_cancel(4, 2, signs, good + [bad]), False)
             self.assertIs(comparisons_cancel(4, 2, signs, [bad]), False)
 
