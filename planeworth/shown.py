@@ -198,33 +198,26 @@ def by_letters(n, rows):
              for (_, k, powers), a in row.items()} for letter in range(n) for row in rows]
 
 
-def parts_of(n, row):
-    """The polynomials of a derivation that is told as a row."""
-    return [{powers: a for (_, at, powers), a in row.items() if at == k} for k in range(n)]
-
-
 def shows_bound(n, rows, table):
     """Whether a tuple is the table of planes at the origin, and ends as it does where they are not free."""
     check_origin(n, rows)
-    if not isinstance(table, tuple):
+    # The table ends with the degree m at the latest.
+    if not isinstance(table, tuple) or len(table) > len(rows) + 1:
         return False
-    chosen = []
     before = []
+    many = 0
     total = 0
     for degree, entry in enumerate(table):
         made = grown({}, by_letters(n, before))
         before = lawful_rows(n, rows, degree)
-        both = grown(made, before)
-        fresh = [both[place] for place in both if place not in made]
-        if entry != (len(before), len(fresh)):
+        fresh = len(before) - len(made)
+        if entry != (len(before), fresh):
             return False
-        chosen.extend([parts_of(n, row) for row in fresh])
-        total += degree * len(fresh)
-        if len(chosen) > n or (len(chosen) == n and total > len(rows)):
+        many += fresh
+        total += degree * fresh
+        if many > n or (many == n and total > len(rows)):
             return degree + 1 == len(table)
-        # Any lawful derivations with these degrees tell whether there is a basis.
-        if len(chosen) == n and total == len(rows) and len(expanded(n, chosen)) > 0:
-            return False
+    # If the planes are free nothing is new behind a basis, so neither of the two ways is ever come to.
     return False
 
 
@@ -327,7 +320,7 @@ def is_flat(rows, value):
 
 def is_flag(rows, size, value):
     """Whether a value is a flag of a size."""
-    if not isinstance(value, list) or len(value) != size or not all([is_flat(rows, flat) for flat in value]):
+    if not isinstance(value, list) or not all([is_flat(rows, flat) for flat in value]):
         return False
     ranks = [rank_of([rows[at] for at in flat]) for flat in value]
     return ranks == list(range(1, size + 1)) and all([at in other for flat, other in zip(value, value[1:])

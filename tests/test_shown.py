@@ -18,7 +18,10 @@ from tests.helpers import (BIG, EXAMPLE, NO_NUMBERS, ORIGIN_LISTS, SMALL_LISTS, 
                            random_sum)
 from tests.test_certificates import NO_PLANES
 
-FREE = [(planes, *freedom(planes)) for planes in ORIGIN_LISTS]
+# Lines of two directions, without the line at infinity: their tables end in the second way.
+GRIDS = [read_planes("3 1,0,0,0 1,0,-1,0 1,0,-2,0 0,1,0,0 0,1,-1,0 0,1,-2,0"),
+         read_planes("3 1,0,0,0 1,0,-1,0 1,0,-2,0 0,1,0,0 0,1,-1,0 0,1,-2,0 0,1,-3,0")]
+FREE = [(planes, *freedom(planes)) for planes in ORIGIN_LISTS + GRIDS]
 THROUGH = read_planes("2 1,0,0 0,1,0 1,1,0")
 FOUR = read_planes("3 1,0,0,0 0,1,0,0 0,0,1,0 1,1,1,0")
 LISTS = [planes for planes in SMALL_LISTS if len(planes) <= 5] + [THROUGH]
@@ -197,6 +200,16 @@ class TestFreedom(unittest.TestCase, Refusals):
         for told in wrong:
             self.assertIs(free(planes, told), False, told)
         self.assertIs(free(planes, ((((0, 1), 1), ((1, 0), 1)), good[1])), False)
+        # A term with the integer 0, and powers that are no integers.
+        self.assertIs(free(planes, (((x,), (((1, 0), 0),)), ((), (y,)))), False)
+        self.assertIs(free(planes, (((x,), ((("1", "0"), 1),)), ((), (y,)))), False)
+
+    def test_one_derivation_too_many(self):
+        planes = read_planes("2 1,0,0")
+        x, one = ((1, 0), 1), ((0, 0), 1)
+        good = (((x,), ()), ((), (one,)))
+        self.assertIs(free(planes, good), True)
+        self.assertIs(free(planes, good + good[1:]), False)
 
     def test_twelve_is_the_greatest_degree(self):
         planes = origin_planes(1, 2, 12, 40)
@@ -228,7 +241,18 @@ class TestFreedom(unittest.TestCase, Refusals):
                 new = [fresh for _, fresh in told]
                 ends.add(sum(new) > planes.n)
                 self.assertTrue(sum(new) > planes.n or sum(d * k for d, k in enumerate(new)) > len(planes))
-        self.assertIn(True, ends)
+                self.assertLessEqual(len(told), len(planes) + 1)
+        self.assertEqual(ends, {True, False})
+        self.assertEqual([new for _, new in freedom(GRIDS[0])[1]], [0, 1, 0, 2])
+        self.assertEqual([new for _, new in freedom(GRIDS[1])[1]], [0, 1, 0, 1, 1])
+
+    def test_tables_that_go_on_behind_a_basis(self):
+        for planes in ORIGIN_LISTS:
+            if planes.n == 2 and len(planes) > 1:
+                table = degree_table(planes)
+                more = tuple((len(lawful_basis(planes, degree)), 0) for degree in range(len(table), 9))
+                for k in range(len(more) + 1):
+                    self.assertIs(bound(planes, tuple(table) + more[:k]), False)
 
     def test_never_both(self):
         papers = [told for _, _, told in FREE]
@@ -283,7 +307,7 @@ def spoilt_relations(kind, product, rest):
     return [(other, product, rest), ("Tied", product, rest), ("", product, rest), (kind, product[::-1], rest),
             (kind, product[1:], rest), (kind, product, rest + (77,)), (kind, product, (-1,)), (kind, product, (1, 0)),
             (kind, product, rest + rest[-1:] or (0, 0)), (kind, product + (99,), rest), (kind, product), (kind,), (),
-            (kind, product, rest, ()), (kind, product, None), (kind, None, rest), (kind, list(product), rest), None]
+            (kind, product, rest, ()), (kind, ("0",), rest), (kind, product, ("0", "1")), (kind, product, None), (kind, None, rest), (kind, list(product), rest), None]
 
 
 class TestSums(unittest.TestCase, Refusals):
@@ -371,6 +395,28 @@ class TestSums(unittest.TestCase, Refusals):
         self.assertIs(alike(zero_sum(parallel, 3), zero_sum(parallel, 3), [((1, 1), ("empty", (0, 1), ()))]), False)
         self.assertIs(alike(zero_sum(parallel, 2), zero_sum(parallel, 2), [((1, 1), ("tied", (0, 1), (2,)))]), False)
 
+    def test_kinds_of_relations(self):
+        # In each of these the size is right; 0 and 1 are parallel, 0, 2 and 3 have a line in common.
+        planes = read_planes("3 1,0,0,0 1,0,0,1 0,1,0,0 1,1,0,0 0,0,1,0")
+        for size, relation, due in (
+                (2, ("empty", (0, 1), ()), True), (3, ("empty", (0, 1), (4,)), True), (2, ("tied", (0, 2, 3), ()), True),
+                (3, ("tied", (0, 2, 3), (4,)), True), (3, ("empty", (0, 2, 3), ()), False), (1, ("tied", (0, 1), ()), False),
+                (2, ("tied", (0, 1), (4,)), False), (2, ("tied", (0, 1, 2), ()), False), (1, ("tied", (0, 2), ()), False),
+                (2, ("tied", (0, 2, 4), ()), False), (2, ("empty", (0, 2), ()), False), (0, ("empty", (), ()), False),
+                (2, ("Empty", (0, 1), ()), False), (3, ("Tied", (0, 2, 3), ()), False), (2, ("", (0, 1), ()), False),
+                (3, ("shown", (0, 2, 3), ()), False), (4, ("tied", (0, 2, 3), (1, 4)), True), (4, ("tied", (0, 1, 2, 3, 4), ()), False),
+                (5, ("empty", (0, 1, 2, 3, 4), ()), True)):
+            self.assertIs(self.is_relation(planes, size, relation), due)
+            one = zero_sum(planes, size)
+            self.assertIs(alike(one, one, [((0, 1), relation)]), due)
+            self.assertIs(alike(relation_sum(planes, relation) if due else one, one, [((1, 1), relation)]), due)
+
+    def test_flags_of_planes_that_do_not_meet(self):
+        planes = read_planes("2 1,0,0 1,0,1 0,1,0")
+        one = read_sum(planes, "2 1 0,1")
+        self.assertIs(parted(one, zero_sum(planes, 2), [(0,), (0, 1)]), False)
+        self.assertIs(parted(read_sum(planes, "2 1 0,2"), zero_sum(planes, 2), [(0,), (0, 2)]), True)
+
     def test_any_flags(self):
         draw = Random(6)
         for planes in LISTS:
@@ -397,7 +443,7 @@ class TestSums(unittest.TestCase, Refusals):
         wrong = [flag[:-1], flag[1:], flag + [()], flag + flag[-1:], [()] + flag, tuple(flag)]
         wrong += [flag[::-1]] if len(flag) > 1 else []
         for k, flat in enumerate(flag):
-            for change in (flat[:-1], flat[::-1], flat + (99,), (-1,) + flat, flat + flat[-1:], (0, 1, 2, 3, 4), list(flat), None,
+            for change in (flat[:-1], flat[::-1], flat + (99,), (-1,) + flat, flat + flat[-1:], (0, 1, 2, 3, 4), list(flat), None, ("0",),
                            draw.choice(told.web())):
                 wrong.append(flag[:k] + [change] + flag[k + 1:])
         every = flags(one.base, one.size)
@@ -480,7 +526,7 @@ class TestSums(unittest.TestCase, Refusals):
                 self.told(BadNumber, call, 2, rows, size, bad_sum, bad_sum, None)
             for size in (0, 12):
                 self.assertIs(call(2, rows, size, [], [], None), False)
-            for product in ((), (0,), (0, 1, 2), (1, 0), (0, 0), (0, 3), (-1, 0), (0, BIG)):
+            for product in ((), (0,), (0, 1, 2), (1, 0), (0, 0), (0, 3), (-1, 0), (0, BIG), ("0", "1")):
                 self.told(NotSum, call, 2, rows, 2, [((0, 1), (1, 1)), (product, (2, 4))], bad_number, None)
                 self.told(NotSum, call, 2, rows, 2, [((0, 1), (1, 1))], [(product, (2, 4))] + bad_number, None)
             for x in NO_NUMBERS:
