@@ -4,7 +4,7 @@ from planeworth.alike import decide, lowered, plain
 from planeworth.bodies import volume
 from planeworth.counting import bounded_number, faces_numbers, polynomial, section, shrunk
 from planeworth.derivations import degrees
-from planeworth.errors import NotGraph, PlaneError
+from planeworth.errors import PlaneError
 from planeworth.families import family, label
 from planeworth.flats import web, weight
 from planeworth.graphs import Graph, colourings
@@ -71,12 +71,8 @@ def is_kind(kind, thing):
 
 
 def step_of(integers):
-    """The step of a word with two or three integers."""
-    if len(integers) == 2:
-        return integers + (0,)
-    if len(integers) != 3:
-        raise NotGraph("a step has two or three integers")
-    return integers
+    """The step of the integers of a word; a graph refuses those that are no three."""
+    return integers + (0,) if len(integers) == 2 else integers
 
 
 def graph_of(m, words):

@@ -124,7 +124,8 @@ def places_asked(n, rows, degree):
     asked = {(1, k, powers): {} for k in range(n) for powers in powers_with(n, degree)}
     for at, row in enumerate(rows):
         for place, told in on_plane(row[:-1], at, degree).items():
-            asked[place].update(told)
+            for rest, b in told.items():
+                asked[place][rest] = b
     return asked
 
 

@@ -62,6 +62,11 @@ INTERFACE = {
     "certificates": """shows_row(n,rows,row,point) refuses_row(n,rows,row,combination) tells_all(n,rows,papers)
         faces_told(n,rows,papers) shows_in(n,strokes,point,shares) shows_out(n,strokes,point,direction)
         comparisons_cancel(k,r,signs,comparisons)""",
+    "shown": """shows_free(n,rows,derivations) shows_bound(n,rows,table)
+        shows_alike(n,rows,size,terms,others,paper) shows_parted(n,rows,size,terms,others,flag)""",
+    "papers": """row_papers(planes) swapped_signs()""",
+    "lines": """words_of(line) is_name(word) number_in(word) integers_in(word)""",
+    "journal": """attempt(journal,lines,*,keep=False) resume(text)""",
 }
 CLASSES = {
     ("planes", "Planes"): """__init__(self,n,rows) planes(self) __len__(self) __eq__(self,other) rank(self)
@@ -73,6 +78,9 @@ CLASSES = {
         text(self)""",
     ("graphs", "Graph"): """__init__(self,m,steps) steps(self) __len__(self) __eq__(self,other) is_plain(self)
         planes(self)""",
+    ("desk", "Desk"): """__init__(self) answer(self,line) answers(self,lines) names(self) thing(self,name)""",
+    ("journal", "Journal"): """__init__(self) answer(self,line) record(self) lines(self) keep(self) __enter__(self)
+        __exit__(self,kind,value,trace)""",
 }
 
 
