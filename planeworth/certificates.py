@@ -41,9 +41,14 @@ def upright(row):
     return max(row, tuple([-a for a in row]))
 
 
+def are_integers(many, value):
+    """Whether a value is a tuple of so many integers."""
+    return isinstance(value, tuple) and len(value) == many and all([isinstance(a, int) for a in value])
+
+
 def is_plane_row(n, row):
-    """Whether a tuple of integers is a plane for n letters."""
-    if len(row) != n + 1 or not any(row[:n]):
+    """Whether a value is a plane for n letters."""
+    if not are_integers(n + 1, row) or not any(row[:n]):
         return False
     shared = 0
     for a in row:
@@ -162,7 +167,7 @@ def faces_told(n, rows, papers):
 def check_body(n, strokes):
     """Raise BadNumber for n, then NotStrokes if tuples of integers are no strokes."""
     check_dimension(n)
-    if len(strokes) > 8 or not all([len(stroke) == n and any(stroke) for stroke in strokes]):
+    if len(strokes) > 8 or not all([are_integers(n, stroke) and any(stroke) for stroke in strokes]):
         raise NotStrokes("strokes have an integer for each letter, not all of them 0, and there are at most 8")
     if any([abs(a) > 100 for stroke in strokes for a in stroke]):
         raise NotStrokes("an integer of a stroke is not from -100 to 100")
@@ -183,9 +188,7 @@ def shows_out(n, strokes, point, direction):
     """Whether the value of a direction at a point is greater than its greatest one in the body."""
     check_body(n, strokes)
     place = over_one(n, point)
-    if place is None or not isinstance(direction, tuple) or len(direction) != n:
-        return False
-    if not all([isinstance(a, int) for a in direction]):
+    if place is None or not are_integers(n, direction):
         return False
     most = sum([max(0, added_up(stroke, direction)) for stroke in strokes])
     return added_up(direction, place) > most * place[-1]
@@ -212,7 +215,7 @@ def is_comparison(k, r, told):
         return False
     x = told[0]
     indexes = x + told[1:]
-    return (len(x) == r - 2 and all([0 <= at < k for at in indexes]) and len(set(indexes)) == r + 2
+    return (are_integers(r + 2, indexes) and all([0 <= at < k for at in indexes]) and len(set(indexes)) == r + 2
             and all([at < other for at, other in zip(x, x[1:])]))
 
 

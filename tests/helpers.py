@@ -1,8 +1,10 @@
 """What several tests need: fractions, an elimination of its own, lists of planes."""
 
+import ast
 from fractions import Fraction
 from itertools import combinations, permutations, product
 from math import gcd
+from pathlib import Path
 from random import Random
 
 from planeworth.planes import Planes
@@ -216,6 +218,13 @@ ORIGIN_LISTS = [read_planes(text) for text in (
     "3 1,0,0,0 0,1,0,0 1,1,0,0 0,0,1,0 1,1,1,0", "3 1,2,3,0 2,-1,1,0 1,1,-1,0 3,0,1,0 1,5,2,0",
     "4 1,0,0,0,0 0,1,0,0,0 0,0,1,0,0 0,0,0,1,0", "4 1,0,0,0,0 0,1,0,0,0 0,0,1,0,0 0,0,0,1,0 1,1,1,1,0",
     "4 0,1,0,0,0 0,1,1,0,0 0,0,1,0,0", "4 1,-1,0,0,0 0,1,-1,0,0 1,0,-1,0,0 0,0,1,-1,0 0,1,0,-1,0")]
+
+
+def imports_of(module):
+    """The names of the modules that a module imports from."""
+    tree = ast.parse(Path(module.__file__).read_text(encoding="utf-8"))
+    assert not any(isinstance(node, ast.Import) for node in ast.walk(tree))
+    return {node.module for node in ast.walk(tree) if isinstance(node, ast.ImportFrom)}
 
 
 class Refusals:

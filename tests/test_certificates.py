@@ -1,11 +1,9 @@
 """[260] to [262], [264], [265]: the checker of rows, shares and comparisons."""
 
-import ast
 import unittest
 from fractions import Fraction
 from itertools import combinations, permutations, product
 from math import gcd
-from pathlib import Path
 from random import Random
 
 from planeworth import certificates
@@ -19,7 +17,7 @@ from planeworth.rooms import faces
 from planeworth.sides import decide_row, refusing_ties
 from planeworth.texts import read_planes
 from tests.helpers import (BIG, EXAMPLE, NO_NUMBERS, SMALL_LISTS, Refusals, all_rows, combination_refuses, dot,
-                           origin_planes, pair, pairs, point_shows, random_planes)
+                           imports_of, origin_planes, pair, pairs, point_shows, random_planes)
 
 LISTS = [planes for planes in SMALL_LISTS if len(planes) <= 4] + [random_planes(3, 2, 4, 2), random_planes(5, 3, 4, 1)]
 TWO = read_planes("1 1,0 1,1")
@@ -28,6 +26,7 @@ TWO = read_planes("1 1,0 1,1")
 NO_PLANES = [
     [(1, 0, 0), (0, 0, 1)], [(2, 0, 2)], [(0, 0, 0)], [(1, 0)], [(1, 0, 0, 0)], [()], [(1, 0, 1001)], [(-1001, 1, 0)],
     [(1, 0, 0), (0, 1, 0), (1, 0, 0)], [(1, 0, 2), (-1, 0, -2)], [(BIG, 1, 0)], [(1, k, 0) for k in range(13)],
+    [("1", 0, 0)], [[1, 0, 0]], ["abc"], [None],
 ]
 
 
@@ -45,8 +44,7 @@ def papers_of(planes, part=""):
 class TestImports(unittest.TestCase):
 
     def test_errors_and_shown_alone(self):
-        tree = ast.parse(Path(certificates.__file__).read_text(encoding="utf-8"))
-        names = {node.module for node in ast.walk(tree) if isinstance(node, ast.ImportFrom)}
+        names = imports_of(certificates)
         own = {name for name in names if name.startswith("planeworth")}
         self.assertLessEqual(own, {"planeworth.errors", "planeworth.shown"})
         self.assertLessEqual(names - own, {"math", "itertools"})
@@ -353,11 +351,14 @@ class TestShares(unittest.TestCase, Refusals):
 
     def test_errors_in_their_order(self):
         wrong = [[(0, 0)], [(1,)], [(1, 0, 0)], [()], [(101, 0)], [(0, -101)], [(1, 0)] * 9, [(1, 1), (0, 0)], [(BIG, 1)]]
+        other = [[("1", 0)], [[1, 0]], ["ab"], [None]]
         for call, told in ((shows_in, ((2, 4),)), (shows_out, (1,))):
             for n in (0, 5, -1, BIG):
                 self.told(BadNumber, call, n, [(0, 0)], (), told)
             for strokes in wrong:
                 self.assertIs(is_strokes(2, strokes), False)
+                self.told(NotStrokes, call, 2, strokes, (), told)
+            for strokes in other:
                 self.told(NotStrokes, call, 2, strokes, (), told)
             self.assertIs(call(2, [(100, -100)] * 8, (), told), False)
 
@@ -438,7 +439,7 @@ class TestComparisons(unittest.TestCase, Refusals):
         self.assertIs(comparisons_cancel(4, 2, signs, good), True)
         for bad in (((0,), 0, 1, 2, 3), ((4,), 0, 1, 2, 3), ((), 0, 1, 2, 4), ((), -1, 1, 2, 3), ((), 0, 1, 2, 2),
                     ((), 0, 0, 2, 3), ((), 0, 1, 2, 0), ((), 0, 1, 2, BIG), ((), 0, 1, 2), ((), 0, 1, 2, 3, 3), (),
-                    [(), 0, 1, 2, 3], ([], 0, 1, 2, 3), (0, 0, 1, 2, 3)):
+                    [(), 0, 1, 2, 3], ([], 0, 1, 2, 3), (0, 0, 1, 2, 3), ((), 0, 1, 2, "3"), (("0",), 0, 1, 2, 3)):
             self.assertIs(comparisons_cancel(4, 2, signs, good + [bad]), False)
             self.assertIs(comparisons_cancel(4, 2, signs, [bad]), False)
 

@@ -56,6 +56,17 @@ def determinant(rows):
     return found
 
 
+def product_over_flats(planes, tolls):
+    """The product of [194]."""
+    found = Fraction(1)
+    for flat, exponent in flat_exponents(planes):
+        worth = Fraction(1)
+        for at in flat:
+            worth *= Fraction(*tolls[at]) ** 2
+        found *= (1 - worth) ** exponent
+    return found
+
+
 def exponents(told):
     """The exponents of all flats, by weights added up and faces counted."""
     planes, weights = told.planes, told.weights()
@@ -189,13 +200,7 @@ class TestDeterminants(unittest.TestCase, Refusals):
                 found = determinant(rows)
                 self.assertEqual(toll_determinant(planes, tolls), pair(found))
                 self.assertEqual(toll_rank(planes, tolls), len(reduced(rows)))
-                due = Fraction(1)
-                for flat, exponent in flat_exponents(planes):
-                    worth = Fraction(1)
-                    for at in flat:
-                        worth *= Fraction(*tolls[at]) ** 2
-                    due *= (1 - worth) ** exponent
-                self.assertEqual(found, due)
+                self.assertEqual(found, product_over_flats(planes, tolls))
                 self.lost(planes, tolls, rows, found)
                 zero += found == 0
         self.assertGreater(zero, 20)

@@ -11,7 +11,7 @@ from planeworth.certificates import faces_told, shows_in, shows_out
 from planeworth.circuits import allowed
 from planeworth.counting import bounded_number, faces_numbers, polynomial, rooms_number, value_at
 from planeworth.derivations import degrees, freedom, lawful
-from planeworth.distances import flat_exponents, toll_determinant, toll_rank, toll_table
+from planeworth.distances import toll_determinant, toll_rank, toll_table
 from planeworth.errors import NoAnswer
 from planeworth.flats import flat_dimension, web, weight
 from planeworth.graphs import Graph, agreeing, colour_row, colourings, orientations, rest_points, sources
@@ -28,6 +28,7 @@ from planeworth.signrows import apart_from, least_rows, row_closure, rows_of_roo
 from planeworth.walks import away, away_bound, diagonal_sum, drawn, is_rest, rest, shares, step_table, steps_table
 from tests.helpers import (ORIGIN_LISTS, SMALL_LISTS, all_rows, fractions, origin_planes, pair, pairs, random_planes,
                            random_sum)
+from tests.test_distances import product_over_flats
 
 LISTS = SMALL_LISTS + [random_planes(2, 2, 5, 3), random_planes(3, 3, 5, 2), origin_planes(2, 3, 5, 1)]
 CENTRAL = [planes for planes in LISTS + ORIGIN_LISTS if planes.is_central()]
@@ -270,13 +271,7 @@ class TestTablesAndWalks(unittest.TestCase):
             table = toll_table(planes, tolls)
             self.assertEqual(toll_determinant(planes, tolls), determinant(many, table))
             self.assertEqual(toll_rank(planes, tolls), rank(many, table))
-            due = Fraction(1)
-            for flat, exponent in flat_exponents(planes):
-                worth = Fraction(1)
-                for at in flat:
-                    worth *= Fraction(*tolls[at]) ** 2
-                due *= (1 - worth) ** exponent
-            self.assertEqual(toll_determinant(planes, tolls), pair(due))
+            self.assertEqual(toll_determinant(planes, tolls), pair(product_over_flats(planes, tolls)))
 
     def test_walks(self):
         # [211] to [216]

@@ -1,10 +1,8 @@
 """[260], [263], [267]: the checker of planes that are free and of sums that are alike."""
 
-import ast
 import unittest
 from fractions import Fraction
 from itertools import combinations, permutations
-from pathlib import Path
 from random import Random
 
 from planeworth import shown
@@ -14,8 +12,8 @@ from planeworth.errors import BadNumber, NotNumber, NotPlanes, NotSum, TooLarge
 from planeworth.products import Sum, read_sum, relation_sum, zero_sum
 from planeworth.shown import shows_alike, shows_bound, shows_free, shows_parted
 from planeworth.texts import read_planes
-from tests.helpers import (BIG, EXAMPLE, NO_NUMBERS, ORIGIN_LISTS, SMALL_LISTS, Refusals, Told, origin_planes, pair, pairs,
-                           random_sum)
+from tests.helpers import (BIG, EXAMPLE, NO_NUMBERS, ORIGIN_LISTS, SMALL_LISTS, Refusals, Told, imports_of, origin_planes, pair,
+                           pairs, random_sum)
 from tests.test_certificates import NO_PLANES
 
 # Lines of two directions, without the line at infinity: their tables end in the second way.
@@ -46,8 +44,7 @@ def parted(one, other, flag):
 class TestImports(unittest.TestCase):
 
     def test_errors_and_certificates_alone(self):
-        tree = ast.parse(Path(shown.__file__).read_text(encoding="utf-8"))
-        names = {node.module for node in ast.walk(tree) if isinstance(node, ast.ImportFrom)}
+        names = imports_of(shown)
         own = {name for name in names if name.startswith("planeworth")}
         self.assertLessEqual(own, {"planeworth.errors", "planeworth.certificates"})
         self.assertLessEqual(names - own, {"math", "itertools"})
